@@ -241,10 +241,8 @@ func SnailText(s Snail) (string, bool) {
 
 // ParseSnail returns the snail with a SnailText. It fails if there is none.
 func ParseSnail(t string) (Snail, bool) {
-	left, right, _ := strings.Cut(t, "-")
-	up, upError := strconv.Atoi(left)
-	down, downError := strconv.Atoi(right)
-	if upError != nil || downError != nil {
+	up, down, numbers := twoNumbers(t, "-")
+	if !numbers {
 		return Snail{}, false
 	}
 	s := Snail{Up: up, Down: down}
@@ -279,6 +277,14 @@ func highestFrom(height int, up int, slips []int, days int) int {
 		height = max(0, height+up-slips[k%len(slips)])
 	}
 	return highest
+}
+
+// twoNumbers takes a text apart at the first separator; it takes all numbers that Atoi takes.
+func twoNumbers(text string, separator string) (int, int, bool) {
+	left, right, _ := strings.Cut(text, separator)
+	one, oneError := strconv.Atoi(left)
+	two, twoError := strconv.Atoi(right)
+	return one, two, oneError == nil && twoError == nil
 }
 
 func isWithin(n int, least int, most int) bool {

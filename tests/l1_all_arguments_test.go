@@ -155,7 +155,7 @@ func TestSlipsAreNotModified(t *testing.T) {
 	impl.DaysWithSlips(3, slips, 50)
 	impl.GreatestWithSlips(3, slips, 50)
 	heights, ok := impl.HeightsWithSlips(3, slips, 50, 4)
-	wantHeights(t, "HeightsWithSlips", heights, ok, []int{3, 5, 5, 7})
+	wantNumbers(t, "HeightsWithSlips", heights, ok, []int{3, 5, 5, 7})
 	for k := range heights {
 		heights[k] = -1
 	}
@@ -163,5 +163,5 @@ func TestSlipsAreNotModified(t *testing.T) {
 		t.Errorf("the slips have become %v", whole)
 	}
 	heights, ok = impl.HeightsWithSlips(3, slips, 50, 4)
-	wantHeights(t, "HeightsWithSlips once more", heights, ok, []int{3, 5, 5, 7})
+	wantNumbers(t, "HeightsWithSlips once more", heights, ok, []int{3, 5, 5, 7})
 }

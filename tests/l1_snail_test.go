@@ -29,7 +29,7 @@ func wantInt(t *testing.T, what string, got int, ok bool, want int) {
 
 const fails = math.MinInt
 
-func wantHeights(t *testing.T, what string, got []int, ok bool, want []int) {
+func wantNumbers(t *testing.T, what string, got []int, ok bool, want []int) {
 	t.Helper()
 	if ok != (want != nil) || !slices.Equal(got, want) {
 		t.Errorf("%s: got %v, %v, not %v", what, got, ok, want)
@@ -522,7 +522,7 @@ func TestHeightsWithSlips(t *testing.T) {
 	}
 	for _, c := range cases {
 		heights, ok := impl.HeightsWithSlips(c.up, c.slips, c.wall, c.days)
-		wantHeights(t, "HeightsWithSlips", heights, ok, c.want)
+		wantNumbers(t, "HeightsWithSlips", heights, ok, c.want)
 	}
 	if heights, ok := impl.HeightsWithSlips(1000, []int{1000}, impl.MaxWall, 1000); !ok || len(heights) != 1000 {
 		t.Errorf("HeightsWithSlips of 1000 days: got %d heights, %v", len(heights), ok)
@@ -597,7 +597,7 @@ func checkSlips(t *testing.T, up int, slips []int, days int) {
 		n, ok = impl.DaysWithSlips(up, slips, wall)
 		wantInt(t, "DaysWithSlips", n, ok, orFails(w.top))
 		heights, ok := impl.HeightsWithSlips(up, slips, wall, 14)
-		wantHeights(t, "HeightsWithSlips", heights, ok, w.evenings[:14])
+		wantNumbers(t, "HeightsWithSlips", heights, ok, w.evenings[:14])
 	}
 }
 
