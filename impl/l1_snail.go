@@ -246,8 +246,7 @@ func ParseSnail(t string) (Snail, bool) {
 		return Snail{}, false
 	}
 	s := Snail{Up: up, Down: down}
-	// Atoi takes signs and superfluous zeros, which no SnailText has.
-	if text, ok := SnailText(s); !ok || text != t {
+	if !isTextOf(t, s, SnailText) {
 		return Snail{}, false
 	}
 	return s, true
@@ -285,6 +284,12 @@ func twoNumbers(text string, separator string) (int, int, bool) {
 	one, oneError := strconv.Atoi(left)
 	two, twoError := strconv.Atoi(right)
 	return one, two, oneError == nil && twoError == nil
+}
+
+// isTextOf reports whether a text is that of what it was parsed to: Atoi takes signs and superfluous zeros, which no text of a kind has.
+func isTextOf[T any](text string, parsed T, textOf func(T) (string, bool)) bool {
+	again, ok := textOf(parsed)
+	return ok && again == text
 }
 
 func isWithin(n int, least int, most int) bool {
