@@ -241,15 +241,12 @@ func SnailText(s Snail) (string, bool) {
 
 // ParseSnail returns the snail with a SnailText. It fails if there is none.
 func ParseSnail(t string) (Snail, bool) {
-	up, down, numbers := twoNumbers(t, "-")
-	if !numbers {
-		return Snail{}, false
-	}
-	s := Snail{Up: up, Down: down}
-	if !isTextOf(t, s, SnailText) {
-		return Snail{}, false
-	}
-	return s, true
+	return parseOne(t, parseSnail, SnailText)
+}
+
+func parseSnail(text string) (Snail, bool) {
+	up, down, ok := twoNumbers(text, "-")
+	return Snail{Up: up, Down: down}, ok
 }
 
 // slipRound is what a snail does without a top while each of its slips comes once.
@@ -286,6 +283,16 @@ func twoNumbers(text string, separator string) (int, int, bool) {
 	return one, two, oneError == nil && twoError == nil
 }
 
+// parseOne returns what has a text; parse may take more texts than there are.
+func parseOne[T any](text string, parse func(string) (T, bool), textOf func(T) (string, bool)) (T, bool) {
+	one, ok := parse(text)
+	if !ok || !isTextOf(text, one, textOf) {
+		var zero T
+		return zero, false
+	}
+	return one, true
+}
+
 // isTextOf reports whether a text is that of what it was parsed to: Atoi takes signs and superfluous zeros, which no text of a kind has.
 func isTextOf[T any](text string, parsed T, textOf func(T) (string, bool)) bool {
 	again, ok := textOf(parsed)
@@ -296,20 +303,27 @@ func isWithin(n int, least int, most int) bool {
 	return least <= n && n <= most
 }
 
+// areAll reports whether a list holds 1 up to most values, all of one kind.
+func areAll[T any](list []T, most int, isOne func(T) bool) bool {
+	if !isWithin(len(list), 1, most) {
+		return false
+	}
+	for _, one := range list {
+		if !isOne(one) {
+			return false
+		}
+	}
+	return true
+}
+
 func isWall(wall int) bool { return isWithin(wall, 1, MaxWall) }
 
 func isDay(day int) bool { return isWithin(day, 1, MaxWall) }
 
 func isClimb(up int, slips []int) bool {
-	if !isWithin(up, 1, MaxUp) || !isWithin(len(slips), 1, MaxSlips) {
-		return false
-	}
-	for _, slip := range slips {
-		if !isWithin(slip, 0, MaxUp) {
-			return false
-		}
-	}
-	return true
+	return isWithin(up, 1, MaxUp) && areAll(slips, MaxSlips, func(slip int) bool {
+		return isWithin(slip, 0, MaxUp)
+	})
 }
 
 // dailyGain is never less than 0: a snail that slips as much as it climbs is at the foot each morning.
