@@ -171,7 +171,13 @@ func TestDogsStop(t *testing.T) {
 	for range 200 {
 		askChase(t)
 	}
-	// One that has told its group that it is done may need a moment to be gone.
+	wantGone(t, before)
+}
+
+// wantGone holds the goroutines that there are against how many there were before.
+func wantGone(t *testing.T, before int) {
+	t.Helper()
+	// One that has told that it is done may need a moment to be gone.
 	for range 100 {
 		if runtime.NumGoroutine() <= before {
 			return
